@@ -350,11 +350,7 @@ func (m *plainQueue) queue() impl.Queue {
 func TestElementsLeaveInOrderOfInsertion(t *testing.T) {
 	for seed := range 30 {
 		q, m := impl.NewQueue(), newPlainQueue()
-		state := uint32(seed*7919 + 1)
-		draw := func(n int) int {
-			state = state*1664525 + 1013904223
-			return int(state>>8) % n
-		}
+		draw := drawer(seed*7919 + 1)
 		for step := range 400 {
 			before := copyOfQueue(q)
 			var next impl.Queue

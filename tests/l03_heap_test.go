@@ -360,11 +360,7 @@ func TestDeadlinesLeaveInOrder(t *testing.T) {
 	for seed := range 24 {
 		var h impl.Heap
 		m := &plainHeap{}
-		state := uint32(seed*7919 + 1)
-		draw := func(n int) int {
-			state = state*1664525 + 1013904223
-			return int(state>>8) % n
-		}
+		draw := drawer(seed*7919 + 1)
 		for step := range 300 {
 			before := copyOfHeap(h)
 			var next impl.Heap
