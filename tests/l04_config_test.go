@@ -472,7 +472,9 @@ func TestResized(t *testing.T) {
 	}
 }
 
-func TestResizedInvalidConfigs(t *testing.T) {
+// brokenConfigs are invalid by a single field each, by two fields that do not
+// fit together, or altogether.
+func brokenConfigs() []impl.Config {
 	var broken []impl.Config
 	for k, f := range fieldRanges() {
 		broken = append(broken, withField(roomyConfig(k), k, f.least-1), withField(roomyConfig(k), k, f.most+1))
@@ -481,8 +483,11 @@ func TestResizedInvalidConfigs(t *testing.T) {
 	tall, steep := d, d
 	tall.Min, tall.Max = 5, 4
 	steep.Base, steep.Cap = 33, 32
-	broken = append(broken, tall, steep, impl.Config{})
-	for _, c := range broken {
+	return append(broken, tall, steep, impl.Config{})
+}
+
+func TestResizedInvalidConfigs(t *testing.T) {
+	for _, c := range brokenConfigs() {
 		// Sizes that are valid by themselves do not make c valid.
 		for _, size := range [][2]int{{1, 4}, {0, 1}, {12, 12}, {5, 4}, {0, 13}, {c.Min, c.Max}} {
 			if got, ok := impl.Resized(c, size[0], size[1]); ok || got != c {
