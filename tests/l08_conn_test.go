@@ -34,13 +34,30 @@ const (
 	noMove     = -1
 )
 
-// connIn returns a valid connection in a state.
+// connIn returns a valid connection in a state; one that is being dialed has
+// Born 0, whatever born is.
 func connIn(state, born, since int) impl.Conn {
 	c := impl.Conn{Id: 6, State: state, Born: born, Since: since}
-	if state == held {
+	switch state {
+	case dialing:
+		c.Born = 0
+	case held:
 		c.Ticket = 9
 	}
 	return c
+}
+
+// dialedButBorn are invalid because they are being dialed and have a Born above 0.
+func dialedButBorn() []impl.Conn {
+	broken := []impl.Conn{
+		{Id: 3, State: dialing, Born: 4, Since: 9}, {Id: 18, State: dialing, Born: 12, Since: 12},
+		{Id: 1, State: dialing, Born: 1, Since: 1}, {Id: 1, State: dialing, Born: 1, Since: top},
+		{Id: top, State: dialing, Born: top, Since: top},
+	}
+	for born := 1; born <= 5; born++ {
+		broken = append(broken, impl.Conn{Id: 6, State: dialing, Born: born, Since: 5})
+	}
+	return broken
 }
 
 func heldConn(since int, told bool) impl.Conn {
@@ -101,7 +118,9 @@ func brokenConns() []impl.Conn {
 			change(c, func(c *impl.Conn) { c.Since = at })
 		}
 		change(c, func(c *impl.Conn) { c.Born = 6 })
-		change(c, func(c *impl.Conn) { c.Since = 2 })
+		if state != dialing {
+			change(c, func(c *impl.Conn) { c.Since = 2 })
+		}
 		if state == held {
 			continue
 		}
@@ -115,6 +134,7 @@ func brokenConns() []impl.Conn {
 			change(connIn(resting, 3, 5), func(c *impl.Conn) { c.State, c.Ticket = state, ticket })
 		}
 	}
+	broken = append(broken, dialedButBorn()...)
 	return append(broken, impl.Conn{})
 }
 
@@ -169,6 +189,29 @@ func TestConnOk(t *testing.T) {
 	for _, c := range brokenConns() {
 		if impl.ConnOk(c) {
 			t.Errorf("%+v is valid", c)
+		}
+	}
+}
+
+// TestBornOfEveryState tries every Born up to the tick after Since.
+func TestBornOfEveryState(t *testing.T) {
+	for state := range connStates {
+		for _, since := range []int{0, 1, 9} {
+			for born := range since + 2 {
+				c := connIn(state, 0, since)
+				c.Born = born
+				want := born == 0 || born <= since && state != dialing
+				if got := impl.ConnOk(c); got != want {
+					t.Errorf("ConnOk(%+v) = %v", c, got)
+				}
+				if got := impl.ConnText(c); (got != "") != want {
+					t.Errorf("ConnText(%+v) = %q", c, got)
+				}
+				_, closes := impl.StepConn(c, toClosed, since, 0)
+				if closes != (want && state != closed) {
+					t.Errorf("StepConn of %+v to closed: %v", c, closes)
+				}
+			}
 		}
 	}
 }
