@@ -374,6 +374,18 @@ func TestLogsAtTheSameTime(t *testing.T) {
 	}
 }
 
+// checkNoWorkerStays expects as many goroutines as before.
+func checkNoWorkerStays(t *testing.T, before int) {
+	t.Helper()
+	// A goroutine that has been waited for may still need a moment to end.
+	for wait := time.Millisecond; runtime.NumGoroutine() > before; wait *= 2 {
+		if wait > 5*time.Second {
+			t.Fatalf("%d goroutines, before %d", runtime.NumGoroutine(), before)
+		}
+		time.Sleep(wait)
+	}
+}
+
 // TestNoWorkerStays: all goroutines end, whatever the logs are.
 func TestNoWorkerStays(t *testing.T) {
 	logs := severalLogs(t)
@@ -383,11 +395,5 @@ func TestNoWorkerStays(t *testing.T) {
 			answersOf(log)
 		}
 	}
-	// A goroutine that has been waited for may still need a moment to end.
-	for wait := time.Millisecond; runtime.NumGoroutine() > before; wait *= 2 {
-		if wait > 5*time.Second {
-			t.Fatalf("%d goroutines, before %d", runtime.NumGoroutine(), before)
-		}
-		time.Sleep(wait)
-	}
+	checkNoWorkerStays(t, before)
 }
